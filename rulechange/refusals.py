@@ -1,0 +1,9 @@
+"""What a call may refuse, an error class each."""
+
+
+class OutOfRange(Exception):
+    pass
+
+
+class NoCase(Exception):
+    pass

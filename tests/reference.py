@@ -1,0 +1,177 @@
+"""The document's words, taken one by one and as slowly as they are told, to hold the program against.
+
+It shares nothing with the program: sets here are frozensets of names, and every "some set", "every set"
+and "least" is gone through whole.
+"""
+
+import re
+from itertools import combinations
+
+NAME = "[a-z][a-z0-9-]{0,14}"
+LITERAL = f"~?{NAME}"
+BODY = f"(?:{LITERAL}(?:, {LITERAL}){{0,5}} )?"
+LAW = re.compile(f"law ({NAME}): ({BODY})-> ({LITERAL})")
+RULE = re.compile(f"rule ({NAME}): ({BODY})=> ({LITERAL})")
+WEIGH = re.compile(f"weigh ({NAME}) > ({NAME})")
+
+
+def parts(members):
+    """All sets within a set, smaller ones first."""
+    members = sorted(members)
+    for size in range(len(members) + 1):
+        for part in combinations(members, size):
+            yield frozenset(part)
+
+
+def opposite(literal):
+    return literal[1:] if literal.startswith("~") else "~" + literal
+
+
+def split_body(words):
+    return tuple(words.rstrip(" ").split(", ")) if words else ()
+
+
+class Case:
+    def __init__(self):
+        self.laws = {}
+        self.rules = {}
+        self.heavier = set()
+        self.follow_memo = {}
+
+    def atoms(self):
+        names = set(self.rules)
+        for body, head in list(self.laws.values()) + list(self.rules.values()):
+            names |= {literal.lstrip("~") for literal in body + (head,)}
+        return sorted(names)
+
+    def literals(self):
+        return [sign + atom for atom in self.atoms() for sign in ("", "~")]
+
+    def weigh(self, x, y):
+        self.heavier.add((x, y))
+        grown = True
+        while grown:
+            more = {(a, d) for a, b in self.heavier for c, d in self.heavier if b == c}
+            grown = not more <= self.heavier
+            self.heavier |= more
+
+    def follows(self, rules):
+        if rules not in self.follow_memo:
+            self.follow_memo[rules] = self.work_out(rules)
+        return self.follow_memo[rules]
+
+    def work_out(self, rules):
+        held = set(rules)
+        clauses = list(self.laws.values()) + [self.rules[name] for name in rules]
+        while True:
+            more = {head for body, head in clauses if held.issuperset(body)} - held
+            if not more:
+                return held
+            held |= more
+
+    def clashes(self, rules):
+        held = self.follows(rules)
+        return any(opposite(literal) in held for literal in held)
+
+    def strikes(self, whole, rule):
+        return any(
+            rule not in part
+            and not any((rule, other) in self.heavier for other in part)
+            and not self.clashes(part)
+            and self.clashes(part | {rule})
+            for part in parts(whole)
+        )
+
+    def grounds(self, on):
+        """All sets of rules that have all that they defend."""
+        on = frozenset(on)
+        every = list(parts(self.rules))
+        struck = {whole: {rule for rule in self.rules if self.strikes(whole, rule)} for whole in every}
+        within = [whole for whole in every if whole <= on]
+        for chosen in every:
+            defended = {
+                rule
+                for rule in on
+                if all(whole & struck[chosen] for whole in within if rule in struck[whole])
+            }
+            if defended <= chosen:
+                yield chosen
+
+    def ground(self, on):
+        found = list(self.grounds(on))
+        least = [chosen for chosen in found if all(chosen <= other for other in found)]
+        assert len(least) == 1, least
+        return least[0]
+
+    def set_of(self, number):
+        return frozenset(name for bit, name in enumerate(sorted(self.rules)) if number >> bit & 1)
+
+    def number_of(self, rules):
+        return sum(2**bit for bit, name in enumerate(sorted(self.rules)) if name in rules)
+
+
+def read(text):
+    """The case and None; or None and the fault's kind and place."""
+    case = Case()
+    place = 0
+    while place < len(text):
+        end = text.find("\n", place)
+        if end < 0:
+            return None, (1, len(text))
+        kind = add_line(case, text[place:end])
+        if kind:
+            return None, (kind, place)
+        place = end + 1
+    return case, None
+
+
+def add_line(case, line):
+    for form, kin, most in ((LAW, case.laws, 64), (RULE, case.rules, 10)):
+        told = form.fullmatch(line)
+        if told:
+            return add_clause(case, kin, most, told[1], (split_body(told[2]), told[3]))
+    told = WEIGH.fullmatch(line)
+    return add_weight(case, told[1], told[2]) if told else 1
+
+
+def add_clause(case, kin, most, name, clause):
+    if name in case.laws or name in case.rules:
+        return 2
+    if len(set(clause[0])) < len(clause[0]) or clause in kin.values():
+        return 3
+    kin[name] = clause
+    if len(kin) > most or len(case.atoms()) > 64:
+        return 4
+    case.follow_memo.clear()
+    if kin is case.laws and case.clashes(frozenset()):
+        return 7
+    return None
+
+
+def add_weight(case, x, y):
+    if x not in case.rules or y not in case.rules:
+        return 5
+    case.weigh(x, y)
+    if any(a == b for a, b in case.heavier):
+        return 6
+    return None
+
+
+def fault(text):
+    return read(text)[1]
+
+
+def with_of(w, literal, what, t):
+    if len(t) > 8192:
+        return [-1]
+    case, wrong = read(bytes(t).decode("latin-1"))
+    if wrong:
+        return [-6]
+    if w >= 2 ** len(case.rules) or literal >= len(case.literals()) or what > 3:
+        return [-1]
+    ground = case.ground(case.set_of(w))
+    held = case.follows(ground)
+    name = case.literals()[literal]
+    stands, falls = name in held, opposite(name) in held
+    so = [stands, not stands, falls, not stands and not falls][what]
+    return [0, int(so), case.number_of(ground)]

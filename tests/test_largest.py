@@ -1,0 +1,124 @@
+"""The largest cases that the document allows."""
+
+import unittest
+
+from reference import fault, read
+from rulechange.desk import with_of
+
+EVERY = 1023
+
+
+def bits(numbers):
+    return sum(2**number for number in numbers)
+
+
+def members(w):
+    return [number for number in range(10) if w >> number & 1]
+
+
+def clauses(word, rows):
+    return "".join(f"{word} {name}: {row}\n" for name, row in rows)
+
+
+def filled(text):
+    """The text with weights told again, up to 8,192 bytes; its rules are a, bb and ccc, among others."""
+    room = 8192 - len(text)
+    longer = room % 13
+    return text + "weigh a > ccc\n" * longer + "weigh a > bb\n" * ((room - 14 * longer) // 13)
+
+
+class FiveOfTenTest(unittest.TestCase):
+    """Any five of ten rules clash, no four do: 252 least clashes, as many as there can be."""
+
+    @staticmethod
+    def text():
+        rows = ["-> z", "t10-5 -> ~z"]
+        for least in range(1, 6):
+            for among in range(least, least + 6):
+                before = f", t{among - 1}-{least - 1}" if least > 1 else ""
+                rows.append(f"r{among - 1}{before} -> t{among}-{least}")
+                if among > least:
+                    rows.append(f"t{among - 1}-{least} -> t{among}-{least}")
+        laws = clauses("law", [(f"l{k}", row) for k, row in enumerate(rows[::-1])])
+        return laws + clauses("rule", [(f"r{k}", f"=> r{k}") for k in range(10)])
+
+    def test_without_weights(self):
+        t = list(self.text().encode())
+        for w in range(0, 1024, 31):
+            ground = w if len(members(w)) < 5 else 0
+            self.assertEqual(with_of(w, 0, 0, t), [0, ground & 1, ground])
+        self.assertEqual(with_of(EVERY, 0, 0, t), [0, 0, 0])
+
+    def test_one_rule_that_outweighs_all_others(self):
+        text = self.text() + "".join(f"weigh r9 > r{k}\n" for k in range(9))
+        t = list(text.encode())
+        self.assertEqual(with_of(EVERY, 18, 0, t), [0, 1, 512])
+        self.assertEqual(with_of(511, 0, 0, t), [0, 0, 0])
+        self.assertEqual(with_of(512 + 31, 0, 0, t), [0, 0, 512])
+
+    def test_all_rules_in_a_row_by_weight(self):
+        text = self.text() + "".join(f"weigh r{k} > r{k + 1}\n" for k in range(9))
+        t = list(text.encode())
+        for w in list(range(0, 1024, 31)) + [EVERY]:
+            ground = bits(members(w)[:4])
+            self.assertEqual(with_of(w, 0, 1, t), [0, 1 - (ground & 1), ground])
+
+
+class LongChainTest(unittest.TestCase):
+    """64 laws, 64 atoms, 10 rules, 8,192 bytes: each literal waits for the one before, each name is long."""
+
+    RULES = ("a", "bb", "ccc", "d-----------001", "d-----------002", "d-----------003") + tuple(f"e{k}" for k in range(4))
+
+    def text(self):
+        chain = [f"p-----------{k:03}" for k in range(54)]
+        laws = [(f"l-----------{k:03}", f"{chain[k]} -> {chain[k + 1]}") for k in range(53)]
+        laws += [(f"m{k}", f"{chain[53]}, {rule} -> ~{chain[0]}") for k, rule in enumerate(self.RULES[:3])]
+        laws += [(f"n{k}", f"~{rule} -> {chain[0]}") for k, rule in enumerate(self.RULES[:8])]
+        rules = [(rule, f"=> {chain[0]}" if rule == "e3" else f"=> {rule}") for rule in self.RULES]
+        return filled(clauses("rule", rules[::-1]) + clauses("law", laws[::-1]))
+
+    def test_it_is_as_large_as_can_be(self):
+        text = self.text()
+        self.assertEqual(len(text), 8192)
+        case = read(text)[0]
+        self.assertEqual([len(case.laws), len(case.rules), len(case.atoms())], [64, 10, 64])
+
+    def test_the_chain_is_gone_through(self):
+        t = list(self.text().encode())
+        # Atoms by name: the ten rules first, then the chain. a, bb, ccc each clash with e3.
+        last = 2 * 63
+        free = EVERY - bits([0, 1, 2, 9])
+        self.assertEqual(with_of(EVERY, last, 0, t), [0, 0, free])
+        self.assertEqual(with_of(EVERY, last, 3, t), [0, 1, free])
+        self.assertEqual(with_of(EVERY - 7, last, 0, t), [0, 1, EVERY - 7])
+        self.assertEqual(with_of(EVERY - 7, last + 1, 2, t), [0, 1, EVERY - 7])
+        self.assertEqual(with_of(EVERY - 512, last, 0, t), [0, 0, EVERY - 512])
+        self.assertEqual(with_of(EVERY, last + 2, 0, t), [-1])
+        self.assertEqual(with_of(EVERY + 1, last, 0, t), [-1])
+        self.assertEqual(with_of(EVERY, last, 0, t + [10]), [-1])
+        self.assertEqual(with_of(EVERY, last, 0, t[:-1] + [32]), [-6])
+
+
+class LongestBodiesTest(unittest.TestCase):
+    def test_bodies_of_six_at_every_turn(self):
+        names = [f"x{k:02}" for k in range(54)]
+        rows = []
+        for k in range(54):
+            body = [f"r{(k + step) % 10}" for step in range(5)] + ([names[k - 1]] if k else ["r7"])
+            rows.append((f"l{k}", f"{', '.join(body)} -> {names[k]}"))
+        rules = [(f"r{k}", f"{', '.join(names[k:k + 6])} => {names[k + 6]}") for k in range(10)]
+        text = clauses("rule", rules) + clauses("law", rows[::-1])
+        self.assertIsNone(fault(text))
+        t = list(text.encode())
+        self.assertEqual(with_of(EVERY, 2 * 63, 0, t), [0, 1, EVERY])
+        for left in range(10):
+            self.assertEqual(with_of(EVERY - 2**left, 2 * 63, 0, t), [0, 0, EVERY - 2**left])
+
+    def test_many_short_lines(self):
+        text = filled("rule a: => p\nrule bb: => ~p\nrule ccc: => q\n")
+        self.assertEqual(len(text), 8192)
+        self.assertEqual(with_of(7, 6, 0, list(text.encode())), [0, 1, 5])
+
+
+if __name__ == "__main__":
+    unittest.main()
