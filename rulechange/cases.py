@@ -23,7 +23,7 @@ def read_case(t):
     # No later line takes a weight or a law away, so these two faults still show when all lines are read.
     if outweighs_itself(case.outweighed):
         raise NoCase()
-    if clashes(case, 0):
+    if has_opposites(case, close(0, case.laws)):
         raise NoCase()
     return case
 
@@ -89,14 +89,19 @@ def is_within(part, whole):
     return part & whole == part
 
 
-def follows(case, chosen):
-    literals = 0
-    clauses = list(case.laws)
-    for rule, clause in enumerate(case.rules):
-        if has(chosen, rule):
-            literals = literals | case.rule_names[rule]
-            clauses.append(clause)
-    return close(literals, clauses)
+def follow_each(case):
+    """Of each set of rules, at its number's place: the set of literals that follow from it."""
+    followed = [close(0, case.laws)]
+    for chosen in range(1, 1 << len(case.rules)):
+        last = chosen.bit_length() - 1
+        # What follows from a part follows from the whole, so nothing of it is worked out again.
+        before = followed[chosen ^ (1 << last)]
+        followed.append(close(before | case.rule_names[last], clauses_of(case, chosen)))
+    return followed
+
+
+def clauses_of(case, chosen):
+    return case.laws + [clause for rule, clause in enumerate(case.rules) if has(chosen, rule)]
 
 
 def close(literals, clauses):
@@ -115,6 +120,5 @@ def close(literals, clauses):
     return closed
 
 
-def clashes(case, chosen):
-    literals = follows(case, chosen)
+def has_opposites(case, literals):
     return any([(literals >> (2 * atom)) & 3 == 3 for atom in range(case.atom_count)])

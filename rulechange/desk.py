@@ -1,36 +1,53 @@
 """The calls."""
 
-from rulechange.cases import follows, read_case
-from rulechange.goals import MOST_WHAT, is_so
-from rulechange.refusals import NoCase, OutOfRange
-from rulechange.strikes import find_ground, find_least_clashes, find_strikers
+from rulechange.cases import follow_each, read_case
+from rulechange.changes import find_least
+from rulechange.goals import MOST_WHAT, Goal, is_so
+from rulechange.refusals import NoCase, NoChange, OutOfRange
+from rulechange.strikes import find_ground, find_least_clashes, find_struck
 
 MOST_BYTES = 8192
 DONE = 0
 OUT_OF_RANGE = -1
+NO_CHANGE = -3
 NO_CASE = -6
 
 
 def with_of(w, literal, what, t):
+    goal = Goal(literal, what)
+    return answer([w], goal, t, lambda case: tell_with(case, w, goal))
+
+
+def least(w, may, literal, what, t):
+    goal = Goal(literal, what)
+    return answer([w, may], goal, t, lambda case: [find_least(case, w, may, goal)])
+
+
+def answer(sets, goal, t, tell):
     try:
-        case = read_asked([w], literal, what, t)
+        return [DONE] + tell(read_asked(sets, goal, t))
     except OutOfRange:
         return [OUT_OF_RANGE]
     except NoCase:
         return [NO_CASE]
-    strikers = find_strikers(find_least_clashes(case), case.outweighed)
-    ground = find_ground(strikers, w)
-    so = is_so(follows(case, ground), literal, what)
-    return [DONE, 1 if so else 0, ground]
+    except NoChange:
+        return [NO_CHANGE]
 
 
-def read_asked(sets, literal, what, t):
+def read_asked(sets, goal, t):
     if len(t) > MOST_BYTES:
         raise OutOfRange()
     case = read_case(t)
     for chosen in sets:
         if chosen >> len(case.rules) != 0:
             raise OutOfRange()
-    if literal >= 2 * case.atom_count or what > MOST_WHAT:
+    if goal.literal >= 2 * case.atom_count or goal.what > MOST_WHAT:
         raise OutOfRange()
     return case
+
+
+def tell_with(case, w, goal):
+    followed = follow_each(case)
+    struck = find_struck(find_least_clashes(case, followed), case.outweighed)
+    ground = find_ground(struck, w)
+    return [1 if is_so(goal, followed[ground]) else 0, ground]

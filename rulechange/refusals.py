@@ -7,3 +7,7 @@ class OutOfRange(Exception):
 
 class NoCase(Exception):
     pass
+
+
+class NoChange(Exception):
+    pass

@@ -5,6 +5,7 @@ and "least" is gone through whole.
 """
 
 import re
+from functools import lru_cache
 from itertools import combinations
 
 NAME = "[a-z][a-z0-9-]{0,14}"
@@ -37,6 +38,8 @@ class Case:
         self.rules = {}
         self.heavier = set()
         self.follow_memo = {}
+        self.struck_memo = {}
+        self.ground_memo = {}
 
     def atoms(self):
         names = set(self.rules)
@@ -82,13 +85,18 @@ class Case:
             for part in parts(whole)
         )
 
+    def struck(self):
+        """Of each set of rules: the rules that it strikes."""
+        if not self.struck_memo:
+            for whole in parts(self.rules):
+                self.struck_memo[whole] = {rule for rule in self.rules if self.strikes(whole, rule)}
+        return self.struck_memo
+
     def grounds(self, on):
         """All sets of rules that have all that they defend."""
-        on = frozenset(on)
-        every = list(parts(self.rules))
-        struck = {whole: {rule for rule in self.rules if self.strikes(whole, rule)} for whole in every}
-        within = [whole for whole in every if whole <= on]
-        for chosen in every:
+        struck = self.struck()
+        within = [whole for whole in struck if whole <= on]
+        for chosen in struck:
             defended = {
                 rule
                 for rule in on
@@ -98,10 +106,25 @@ class Case:
                 yield chosen
 
     def ground(self, on):
-        found = list(self.grounds(on))
-        least = [chosen for chosen in found if all(chosen <= other for other in found)]
-        assert len(least) == 1, least
-        return least[0]
+        on = frozenset(on)
+        if on not in self.ground_memo:
+            found = list(self.grounds(on))
+            least_of = [chosen for chosen in found if all(chosen <= other for other in found)]
+            assert len(least_of) == 1, least_of
+            self.ground_memo[on] = least_of[0]
+        return self.ground_memo[on]
+
+    def so(self, on, literal, what):
+        held = self.follows(self.ground(on))
+        stands, falls = literal in held, opposite(literal) in held
+        return [stands, not stands, falls, not stands and not falls][what]
+
+    def doing(self, on, may, literal, what):
+        """All changes of on within may that do."""
+        return [change for change in parts(may) if self.so((on - change) | (change - on), literal, what)]
+
+    def in_order(self, changes):
+        return sorted(changes, key=lambda change: (len(change), self.number_of(change)))
 
     def set_of(self, number):
         return frozenset(name for bit, name in enumerate(sorted(self.rules)) if number >> bit & 1)
@@ -110,6 +133,7 @@ class Case:
         return sum(2**bit for bit, name in enumerate(sorted(self.rules)) if name in rules)
 
 
+@lru_cache(maxsize=16)
 def read(text):
     """The case and None; or None and the fault's kind and place."""
     case = Case()
@@ -161,17 +185,39 @@ def fault(text):
     return read(text)[1]
 
 
-def with_of(w, literal, what, t):
+def refused(sets, literal, what, t):
+    """A refusal, as a list, or the empty one."""
     if len(t) > 8192:
         return [-1]
     case, wrong = read(bytes(t).decode("latin-1"))
     if wrong:
         return [-6]
-    if w >= 2 ** len(case.rules) or literal >= len(case.literals()) or what > 3:
+    if any(w >= 2 ** len(case.rules) for w in sets) or literal >= len(case.literals()) or what > 3:
         return [-1]
-    ground = case.ground(case.set_of(w))
-    held = case.follows(ground)
-    name = case.literals()[literal]
-    stands, falls = name in held, opposite(name) in held
-    so = [stands, not stands, falls, not stands and not falls][what]
-    return [0, int(so), case.number_of(ground)]
+    return []
+
+
+def asked(literal, t):
+    """The case and the literal's name."""
+    case = read(bytes(t).decode("latin-1"))[0]
+    return case, case.literals()[literal]
+
+
+def doing_of(w, may, literal, what, t):
+    case, name = asked(literal, t)
+    return case, case.doing(case.set_of(w), case.set_of(may), name, what)
+
+
+def with_of(w, literal, what, t):
+    if refused([w], literal, what, t):
+        return refused([w], literal, what, t)
+    case, name = asked(literal, t)
+    on = case.set_of(w)
+    return [0, int(case.so(on, name, what)), case.number_of(case.ground(on))]
+
+
+def least(w, may, literal, what, t):
+    if refused([w, may], literal, what, t):
+        return refused([w, may], literal, what, t)
+    case, doing = doing_of(w, may, literal, what, t)
+    return [0, case.number_of(case.in_order(doing)[0])] if doing else [-3]

@@ -2,18 +2,11 @@
 
 import unittest
 
+from asking import bits, bytes_of, members
 from reference import fault, read
-from rulechange.desk import with_of
+from rulechange.desk import least, with_of
 
 EVERY = 1023
-
-
-def bits(numbers):
-    return sum(2**number for number in numbers)
-
-
-def members(w):
-    return [number for number in range(10) if w >> number & 1]
 
 
 def clauses(word, rows):
@@ -43,22 +36,39 @@ class FiveOfTenTest(unittest.TestCase):
         return laws + clauses("rule", [(f"r{k}", f"=> r{k}") for k in range(10)])
 
     def test_without_weights(self):
-        t = list(self.text().encode())
+        t = bytes_of(self.text())
         for w in range(0, 1024, 31):
             ground = w if len(members(w)) < 5 else 0
             self.assertEqual(with_of(w, 0, 0, t), [0, ground & 1, ground])
         self.assertEqual(with_of(EVERY, 0, 0, t), [0, 0, 0])
 
+    def test_least(self):
+        t = bytes_of(self.text())
+        # A rule stands while there are no more than four: of ten, six others are left out.
+        self.assertEqual(least(EVERY, EVERY, 0, 0, t), [0, bits(range(1, 7))])
+        self.assertEqual(least(EVERY, EVERY, 18, 0, t), [0, bits(range(6))])
+        self.assertEqual(least(EVERY, EVERY - 7, 18, 0, t), [0, bits(range(3, 9))])
+        self.assertEqual(least(EVERY, EVERY - 15, 18, 0, t), [-3])
+        self.assertEqual(least(EVERY, EVERY, 0, 1, t), [0, 0])
+        self.assertEqual(least(0, EVERY, 18, 0, t), [0, 512])
+        # One that stands is left out, or four are found.
+        self.assertEqual(least(512, EVERY, 18, 1, t), [0, 512])
+        self.assertEqual(least(512, EVERY - 512, 18, 1, t), [0, 15])
+        self.assertEqual(least(EVERY, EVERY, 1, 0, t), [-3])
+
     def test_one_rule_that_outweighs_all_others(self):
         text = self.text() + "".join(f"weigh r9 > r{k}\n" for k in range(9))
-        t = list(text.encode())
+        t = bytes_of(text)
         self.assertEqual(with_of(EVERY, 18, 0, t), [0, 1, 512])
         self.assertEqual(with_of(511, 0, 0, t), [0, 0, 0])
         self.assertEqual(with_of(512 + 31, 0, 0, t), [0, 0, 512])
+        self.assertEqual(least(EVERY, EVERY, 18, 1, t), [0, 512])
+        self.assertEqual(least(EVERY, EVERY - 512, 18, 1, t), [-3])
+        self.assertEqual(least(EVERY, EVERY, 0, 0, t), [0, bits(range(1, 7))])
 
     def test_all_rules_in_a_row_by_weight(self):
         text = self.text() + "".join(f"weigh r{k} > r{k + 1}\n" for k in range(9))
-        t = list(text.encode())
+        t = bytes_of(text)
         for w in list(range(0, 1024, 31)) + [EVERY]:
             ground = bits(members(w)[:4])
             self.assertEqual(with_of(w, 0, 1, t), [0, 1 - (ground & 1), ground])
@@ -84,7 +94,7 @@ class LongChainTest(unittest.TestCase):
         self.assertEqual([len(case.laws), len(case.rules), len(case.atoms())], [64, 10, 64])
 
     def test_the_chain_is_gone_through(self):
-        t = list(self.text().encode())
+        t = bytes_of(self.text())
         # Atoms by name: the ten rules first, then the chain. a, bb, ccc each clash with e3.
         last = 2 * 63
         free = EVERY - bits([0, 1, 2, 9])
@@ -99,6 +109,24 @@ class LongChainTest(unittest.TestCase):
         self.assertEqual(with_of(EVERY, last, 0, t[:-1] + [32]), [-6])
 
 
+    def test_least(self):
+        t = bytes_of(self.text())
+        last = 2 * 63
+        # The chain begins with e3, which stands once a, bb and ccc are left out.
+        self.assertEqual(least(EVERY, EVERY, last, 0, t), [0, 7])
+        self.assertEqual(least(EVERY, EVERY - 1, last, 0, t), [-3])
+        self.assertEqual(least(EVERY, EVERY, last, 3, t), [0, 0])
+        self.assertEqual(least(0, EVERY, last, 0, t), [0, 512])
+        self.assertEqual(least(7, EVERY, last, 0, t), [0, 512 + 7])
+        self.assertEqual(least(512, EVERY, last, 1, t), [0, 1])
+        self.assertEqual(least(512, EVERY - 7, last, 1, t), [0, 512])
+        self.assertEqual(least(EVERY, EVERY, last, 2, t), [-3])
+        self.assertEqual(least(EVERY, EVERY, last + 2, 0, t), [-1])
+        self.assertEqual(least(EVERY, EVERY + 1, last, 0, t), [-1])
+        self.assertEqual(least(EVERY, EVERY, last, 0, t + [10]), [-1])
+        self.assertEqual(least(EVERY, EVERY, last, 0, t[:-1] + [32]), [-6])
+
+
 class LongestBodiesTest(unittest.TestCase):
     def test_bodies_of_six_at_every_turn(self):
         names = [f"x{k:02}" for k in range(54)]
@@ -109,15 +137,21 @@ class LongestBodiesTest(unittest.TestCase):
         rules = [(f"r{k}", f"{', '.join(names[k:k + 6])} => {names[k + 6]}") for k in range(10)]
         text = clauses("rule", rules) + clauses("law", rows[::-1])
         self.assertIsNone(fault(text))
-        t = list(text.encode())
+        t = bytes_of(text)
         self.assertEqual(with_of(EVERY, 2 * 63, 0, t), [0, 1, EVERY])
         for left in range(10):
             self.assertEqual(with_of(EVERY - 2**left, 2 * 63, 0, t), [0, 0, EVERY - 2**left])
+        # The last of the chain needs all ten rules.
+        for w in (0, 1, 682, 1022, EVERY):
+            self.assertEqual(least(w, EVERY, 2 * 63, 0, t), [0, EVERY - w])
+        self.assertEqual(least(EVERY, EVERY, 2 * 63, 1, t), [0, 1])
+        self.assertEqual(least(EVERY, 768, 2 * 63, 1, t), [0, 256])
+        self.assertEqual(least(0, EVERY - 1, 2 * 63, 0, t), [-3])
 
     def test_many_short_lines(self):
         text = filled("rule a: => p\nrule bb: => ~p\nrule ccc: => q\n")
         self.assertEqual(len(text), 8192)
-        self.assertEqual(with_of(7, 6, 0, list(text.encode())), [0, 1, 5])
+        self.assertEqual(with_of(7, 6, 0, bytes_of(text)), [0, 1, 5])
 
 
 if __name__ == "__main__":

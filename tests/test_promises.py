@@ -1,68 +1,10 @@
-"""Promise 1, and with_of held against the document's words, over many small cases."""
+"""The promises, over many small cases."""
 
 import random
 import unittest
 
-import reference
-from rulechange.desk import with_of
-
-
-def make_literal(pick, names):
-    return pick.choice(("", "~")) + pick.choice(names)
-
-
-def make_clause(pick, word, arrow, name, names, sizes):
-    body = [make_literal(pick, names) for part in range(pick.choice(sizes))]
-    return f"{word} {name}: {', '.join(body)}{' ' * (len(body) > 0)}{arrow} {make_literal(pick, names)}\n"
-
-
-def make_text(pick, rule_count):
-    rules = [f"r{k}" for k in range(rule_count)]
-    atoms = [f"p{k}" for k in range(pick.randint(1, 4))]
-    lines = [make_clause(pick, "rule", "=>", name, atoms + atoms + rules, (0, 0, 0, 1, 1, 2)) for name in rules]
-    laws = range(pick.randint(0, 5))
-    lines += [make_clause(pick, "law", "->", f"l{k}", atoms + rules, (1, 1, 2, 2, 3)) for k in laws]
-    pick.shuffle(lines)
-    for told in range(pick.choice((0, 0, 1, 2, 4)) if rule_count > 1 else 0):
-        heavy, light = pick.sample(rules, 2)
-        lines.append(f"weigh {heavy} > {light}\n")
-    return "".join(lines)
-
-
-def make_case(pick, rule_count):
-    while True:
-        text = make_text(pick, rule_count)
-        case = reference.read(text)[0]
-        if case:
-            return case, list(text.encode())
-
-
-class AgainstTheWordsTest(unittest.TestCase):
-    def compare(self, seed, count, rule_counts):
-        pick = random.Random(seed)
-        for turn in range(count):
-            case, t = make_case(pick, pick.choice(rule_counts))
-            w = pick.choice((2 ** len(case.rules) - 1, pick.randrange(2 ** len(case.rules))))
-            literal = pick.randrange(len(case.literals()))
-            what = pick.randrange(4)
-            told = reference.with_of(w, literal, what, t)
-            self.assertEqual(with_of(w, literal, what, t), told, (w, literal, what, bytes(t).decode()))
-
-    def test_small_cases(self):
-        self.compare(1, 3000, (1, 2, 3, 4))
-
-    def test_larger_cases(self):
-        self.compare(2, 300, (5, 6, 7))
-
-    def test_texts_with_faults(self):
-        pick = random.Random(3)
-        seen = set()
-        for turn in range(4000):
-            text = make_text(pick, pick.randint(1, 4))
-            wrong = reference.fault(text)
-            seen.add(wrong and wrong[0])
-            self.assertEqual(with_of(0, 0, 0, list(text.encode())) == [-6], wrong is not None, text)
-        self.assertLessEqual({None, 3, 6}, seen)
+from asking import make_asked, make_case, members
+from rulechange.desk import least, with_of
 
 
 class FirstPromiseTest(unittest.TestCase):
@@ -92,6 +34,73 @@ class FirstPromiseTest(unittest.TestCase):
                     self.assertEqual(stands + stands_not, 1)
                     self.assertEqual(stands + falls + neither, 1)
                     self.assertEqual(falls, with_of(w, literal ^ 1, 0, t)[1])
+
+
+def parts(whole):
+    return [part for part in range(whole + 1) if part & whole == part]
+
+
+def is_part(part, whole):
+    return part & whole == part and part != whole
+
+
+def change(w, z):
+    return (w & ~z) | (z & ~w)
+
+
+class ChangesTest(unittest.TestCase):
+    """What each call tells of changes, held against with_of of every change."""
+
+    def rows(self, seed, count, rule_counts=(1, 2, 3, 4, 5)):
+        pick = random.Random(seed)
+        for turn in range(count):
+            w, may, literal, what, t = make_asked(pick, rule_counts)
+            doing = [z for z in parts(may) if with_of(change(w, z), literal, what, t)[1] == 1]
+            yield (w, may, literal, what, t), doing
+
+
+class SecondPromiseTest(ChangesTest):
+    def test_the_least_does_and_is_bare_and_none_that_does_has_fewer_rules(self):
+        told = {-3: 0, 0: 0}
+        for asked, doing in self.rows(5, 300):
+            answer = least(*asked)
+            told[answer[0]] += 1
+            if not doing:
+                self.assertEqual(answer, [-3])
+                continue
+            self.assertEqual((answer[0], len(answer)), (0, 2))
+            found = answer[1]
+            self.assertIn(found, doing)
+            self.assertFalse([z for z in doing if is_part(z, found)])
+            self.assertEqual(len(members(found)), min(len(members(z)) for z in doing))
+            self.assertEqual(found, min(z for z in doing if len(members(z)) == len(members(found))))
+        self.assertGreater(min(told.values()), 50)
+
+
+class FourthPromiseTest(ChangesTest):
+    def test_a_change_made_twice_is_none(self):
+        for (w, may, literal, what, t), doing in self.rows(6, 60, (1, 2, 3, 4)):
+            for z in parts(may):
+                other = change(w, z)
+                self.assertEqual(change(other, z), w)
+                # What does from W, does from W' with z undone besides: one of the two is refused just if the other is.
+                answer = least(other, may, literal, what, t)
+                self.assertEqual(answer[0], 0 if doing else -3)
+                if doing:
+                    self.assertIn(change(answer[1], z), doing)
+                if 0 in doing:
+                    # The goal was so ahead of z, so z once more does.
+                    back = least(other, z, literal, what, t)
+                    self.assertEqual(back[0], 0)
+                    self.assertEqual(back[1] & z, back[1])
+
+    def test_the_least_change_undone_is_the_goal_as_it_was(self):
+        for (w, may, literal, what, t), doing in self.rows(7, 200):
+            if doing and 0 not in doing:
+                found = least(w, may, literal, what, t)[1]
+                after = change(w, found)
+                self.assertEqual(least(after, may, literal, what, t), [0, 0])
+                self.assertEqual(with_of(change(after, found), literal, what, t), with_of(w, literal, what, t))
 
 
 if __name__ == "__main__":

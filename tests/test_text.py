@@ -2,6 +2,7 @@
 
 import unittest
 
+from asking import CALLS
 from reference import fault
 from rulechange.desk import with_of
 
@@ -11,7 +12,15 @@ TOO_LONG = LONG + "p"
 
 
 def answer(text):
-    return with_of(0, 0, 0, list(text.encode("latin-1")))
+    """with_of's answer, once every other call has told of the text the same."""
+    t = list(text.encode("latin-1"))
+    told = with_of(0, 0, 0, t)
+    for name, call in CALLS.items():
+        # Literal 0 stands or doesn't, so of these two goals one is so already.
+        both = [call(0, 0, 0, what, t) for what in (0, 1)]
+        alike = both == [told, told] if told[0] < 0 else both[1 - told[1]][0] == 0
+        assert alike, (name, told, both, text)
+    return told
 
 
 class TextTest(unittest.TestCase):

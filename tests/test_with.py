@@ -1,48 +1,11 @@
-"""with_of: goals, grounds, weights, numbers, refusals."""
+"""with_of: goals, grounds, weights, numbers."""
 
 import unittest
 from itertools import permutations
 
-import reference
+from asking import BIRDS, Asked, bytes_of
 from rulechange.cases import read_case
 from rulechange.desk import with_of
-
-BIRDS = """\
-law tweety: -> penguin
-law penguins: penguin -> bird
-rule flies: bird => fly
-rule flies-not: penguin => ~fly
-weigh flies-not > flies
-"""
-
-
-def bytes_of(text):
-    return list(text.encode("ascii"))
-
-
-class Asked:
-    """A case's text, asked by names in the place of numbers."""
-
-    def __init__(self, text):
-        self.t = bytes_of(text)
-        self.case = reference.read(text)[0]
-
-    def number(self, rules):
-        assert set(rules) <= set(self.case.rules)
-        return self.case.number_of(set(rules))
-
-    def goal(self, rules, literal, what):
-        return with_of(self.number(rules), self.case.literals().index(literal), what, self.t)[1]
-
-    def goals(self, rules, literal):
-        return tuple(self.goal(rules, literal, what) for what in range(4))
-
-    def ground(self, rules=None):
-        rules = self.case.rules if rules is None else rules
-        answer = with_of(self.number(rules), 0, 0, self.t)
-        assert answer[0] == 0 and len(answer) == 3, answer
-        return sorted(self.case.set_of(answer[2]))
-
 
 STANDS = (1, 0, 0, 0)
 FALLS = (0, 1, 1, 0)
@@ -243,89 +206,6 @@ class NumbersTest(unittest.TestCase):
         turned = "".join(lines[3::-1] + lines[4:])
         self.assertNotEqual(turned, BIRDS)
         self.assertEqual([with_of(w, 6, what, bytes_of(turned)) for w in range(4) for what in range(4)], told)
-
-
-class RefusalsTest(unittest.TestCase):
-    GOOD = bytes_of(BIRDS)
-    BAD = bytes_of(BIRDS + "x\n")
-    LARGE = 4294967295
-
-    def test_a_set_with_a_bit_that_is_no_rule_s(self):
-        self.assertEqual(with_of(3, 0, 0, self.GOOD)[0], 0)
-        for w in (4, 5, 7, 8, 1 << 10, 1 << 31, self.LARGE, self.LARGE - 3):
-            self.assertEqual(with_of(w, 0, 0, self.GOOD), [-1])
-        law = bytes_of("law l: -> p\n")
-        self.assertEqual(with_of(0, 0, 0, law), [0, 1, 0])
-        self.assertEqual(with_of(1, 0, 0, law), [-1])
-
-    def test_a_literal_s_number_that_there_is_not(self):
-        self.assertEqual(with_of(3, 9, 0, self.GOOD)[0], 0)
-        for literal in (10, 11, 128, self.LARGE):
-            self.assertEqual(with_of(3, literal, 0, self.GOOD), [-1])
-
-    def test_what_above_3(self):
-        self.assertEqual(with_of(3, 0, 3, self.GOOD)[0], 0)
-        for what in (4, 5, 7, self.LARGE):
-            self.assertEqual(with_of(3, 0, what, self.GOOD), [-1])
-
-    def test_no_case_s_text_comes_before_what_is_asked_of_it(self):
-        for w, literal, what in ((0, 0, 0), (4, 0, 0), (0, 10, 0), (0, 0, 4), (self.LARGE, self.LARGE, self.LARGE)):
-            self.assertEqual(with_of(w, literal, what, self.BAD), [-6])
-
-    def test_too_many_bytes_come_first(self):
-        for filling in (10, 32, 97):
-            for w, literal, what in ((0, 0, 0), (self.LARGE, self.LARGE, self.LARGE)):
-                self.assertEqual(with_of(w, literal, what, self.GOOD + [filling] * (8193 - len(self.GOOD))), [-1])
-                self.assertEqual(with_of(w, literal, what, self.GOOD + [filling] * (8192 - len(self.GOOD))), [-6])
-
-    def test_bytes_that_are_no_signs(self):
-        for byte in (0, 127, 128, 255):
-            self.assertEqual(with_of(0, 0, 0, [byte]), [-6])
-            self.assertEqual(with_of(0, 0, 0, [byte, 10]), [-6])
-
-
-class HandedInTest(unittest.TestCase):
-    CALLS = (
-        (3, 6, 0, bytes_of(BIRDS)),
-        (1, 6, 0, bytes_of(BIRDS)),
-        (3, 0, 1, bytes_of("rule a: => p\nrule b: => ~p\n")),
-        (3, 0, 1, bytes_of("rule a: => p\nrule b: => ~p\nweigh a > b\n")),
-        (3, 0, 1, bytes_of("rule a: => p\nrule b: => ~p\nweigh b > a\n")),
-        (0, 0, 0, bytes_of("law l: -> p\n")),
-        (0, 0, 0, bytes_of("law l: -> ~p\n")),
-        (0, 0, 0, bytes_of("x\n")),
-        (0, 0, 0, []),
-        (9, 0, 0, bytes_of(BIRDS)),
-        (0, 0, 0, [10] * 8300),
-    )
-
-    def test_the_list_is_as_it_was(self):
-        for w, literal, what, t in self.CALLS:
-            kept = list(t)
-            with_of(w, literal, what, t)
-            self.assertEqual(t, kept)
-
-    def test_the_same_answer_each_time(self):
-        first = [with_of(w, literal, what, list(t)) for w, literal, what, t in self.CALLS]
-        again = [with_of(w, literal, what, list(t)) for w, literal, what, t in self.CALLS]
-        back = [with_of(w, literal, what, list(t)) for w, literal, what, t in self.CALLS[::-1]]
-        self.assertEqual(first, again)
-        self.assertEqual(first, back[::-1])
-
-    def test_an_answer_that_is_changed_does_not_come_back(self):
-        t = bytes_of(BIRDS)
-        with_of(3, 6, 1, t).append(7)
-        with_of(9, 6, 1, t).append(7)
-        self.assertEqual(with_of(3, 6, 1, t), [0, 1, 2])
-        self.assertEqual(with_of(9, 6, 1, t), [-1])
-
-    def test_answers_are_lists_of_whole_numbers(self):
-        for w, literal, what, t in self.CALLS:
-            for asked in range(5):
-                answer = with_of(w, literal, asked, t)
-                self.assertIs(type(answer), list)
-                self.assertEqual({type(number) for number in answer}, {int})
-                self.assertEqual(len(answer), 1 if answer[0] < 0 else 3)
 
 
 if __name__ == "__main__":

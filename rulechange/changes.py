@@ -1,0 +1,36 @@
+"""Changes: sets of rules that are left out or found. Those that do, in order."""
+
+from rulechange.cases import follow_each, has, is_within
+from rulechange.goals import is_so_with
+from rulechange.refusals import NoChange
+from rulechange.strikes import find_least_clashes, find_struck
+
+
+def find_doing(case, w, may, goal):
+    followed = follow_each(case)
+    struck = find_struck(find_least_clashes(case, followed), case.outweighed)
+    return [change for change in parts_in_order(may) if is_so_with(goal, changed(w, change), followed, struck)]
+
+
+def parts_in_order(whole):
+    return sorted([part for part in range(whole + 1) if is_within(part, whole)], key=order_of)
+
+
+def order_of(change):
+    return (count_rules(change), change)
+
+
+def count_rules(chosen):
+    return sum([1 for rule in range(chosen.bit_length()) if has(chosen, rule)])
+
+
+def changed(w, change):
+    # A rule of the change that is in w is left out, one that isn't is found.
+    return w ^ change
+
+
+def find_least(case, w, may, goal):
+    doing = find_doing(case, w, may, goal)
+    if len(doing) == 0:
+        raise NoChange()
+    return doing[0]

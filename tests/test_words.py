@@ -1,0 +1,56 @@
+"""Every call held against the document's words, over many small cases."""
+
+import random
+import unittest
+
+import reference
+from asking import CALLS, CALLS_BY_WORDS, bytes_of, make_asked, make_text
+
+
+class AgainstTheWordsTest(unittest.TestCase):
+    def compare(self, seed, count, rule_counts):
+        for name in CALLS:
+            pick = random.Random(seed)
+            for turn in range(count):
+                asked = make_asked(pick, rule_counts)
+                told = CALLS_BY_WORDS[name](*asked)
+                self.assertEqual(CALLS[name](*asked), told, (name, asked[:4], bytes(asked[4]).decode()))
+
+    def test_small_cases(self):
+        self.compare(1, 1500, (1, 2, 3, 4))
+
+    def test_larger_cases(self):
+        self.compare(2, 60, (5, 6))
+
+    def test_all_that_can_be_asked_of_some_cases(self):
+        pick = random.Random(3)
+        for turn in range(6):
+            case, t = self.make_case_of_two_or_three(pick)
+            sets = range(2 ** len(case.rules))
+            rows = [(w, may, literal, what, t) for w in sets for may in sets for literal in range(4) for what in range(4)]
+            for name in CALLS:
+                for asked in rows:
+                    self.assertEqual(CALLS[name](*asked), CALLS_BY_WORDS[name](*asked), (name, asked))
+
+    @staticmethod
+    def make_case_of_two_or_three(pick):
+        while True:
+            text = make_text(pick, pick.randint(2, 3))
+            case = reference.read(text)[0]
+            if case and case.heavier:
+                return case, bytes_of(text)
+
+    def test_texts_with_faults(self):
+        pick = random.Random(4)
+        seen = set()
+        for turn in range(2000):
+            text = make_text(pick, pick.randint(1, 4))
+            wrong = reference.fault(text)
+            seen.add(wrong and wrong[0])
+            for name, call in CALLS.items():
+                self.assertEqual(call(0, 0, 0, 0, bytes_of(text)) == [-6], wrong is not None, (name, text))
+        self.assertLessEqual({None, 3, 6}, seen)
+
+
+if __name__ == "__main__":
+    unittest.main()
