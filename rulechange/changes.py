@@ -1,9 +1,9 @@
-"""Changes: sets of rules that are left out or found. Those that do, in order."""
+"""Changes: sets of rules that are left out or found. Those that do, and the bare ones, in order."""
 
 from rulechange.cases import follow_each, has, is_within
 from rulechange.goals import is_so_with
 from rulechange.refusals import NoChange
-from rulechange.strikes import find_least_clashes, find_struck
+from rulechange.strikes import find_least_clashes, find_struck, has_one_within
 
 
 def find_doing(case, w, may, goal):
@@ -34,3 +34,12 @@ def find_least(case, w, may, goal):
     if len(doing) == 0:
         raise NoChange()
     return doing[0]
+
+
+def find_bare(case, w, may, goal):
+    bare = []
+    # In order the parts of a change go ahead of it, and what does has a bare one within: no others need be asked.
+    for change in find_doing(case, w, may, goal):
+        if not has_one_within(bare, change):
+            bare.append(change)
+    return bare

@@ -1,7 +1,7 @@
 """The calls."""
 
 from rulechange.cases import follow_each, read_case
-from rulechange.changes import find_least
+from rulechange.changes import find_bare, find_least
 from rulechange.goals import MOST_WHAT, Goal, is_so
 from rulechange.refusals import NoCase, NoChange, OutOfRange
 from rulechange.strikes import find_ground, find_least_clashes, find_struck
@@ -21,6 +21,11 @@ def with_of(w, literal, what, t):
 def least(w, may, literal, what, t):
     goal = Goal(literal, what)
     return answer([w, may], goal, t, lambda case: [find_least(case, w, may, goal)])
+
+
+def bares(w, may, literal, what, t):
+    goal = Goal(literal, what)
+    return answer([w, may], goal, t, lambda case: [len(find_bare(case, w, may, goal))])
 
 
 def answer(sets, goal, t, tell):

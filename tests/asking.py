@@ -19,6 +19,7 @@ def calls_of(told):
     return {
         "with_of": lambda w, may, literal, what, t: told.with_of(w, literal, what, t),
         "least": told.least,
+        "bares": told.bares,
     }
 
 
@@ -73,6 +74,11 @@ class Asked:
         assert len(answer) == (1 if answer[0] < 0 else 2), answer
         return answer[0] if answer[0] < 0 else self.names(answer[1])
 
+    def bares(self, rules, may, literal, what):
+        answer = desk.bares(self.number(rules), self.number(may), self.literal(literal), what, self.t)
+        assert answer[0] == 0 and len(answer) == 2, answer
+        return answer[1]
+
 
 def make_literal(pick, names):
     return pick.choice(("", "~")) + pick.choice(names)
@@ -96,19 +102,51 @@ def make_text(pick, rule_count):
     return "".join(lines)
 
 
+def make_dense_text(pick, rule_count):
+    """Rules that mostly speak of the same few atoms and of one another, so that there are several ways to a goal."""
+    rules = [f"r{k}" for k in range(rule_count)]
+    # A body that always follows lets several rules have the same head.
+    lines = [f"law f{k}: -> u{k}\n" for k in range(rule_count)]
+    for k, name in enumerate(rules):
+        body = pick.choice((f"u{k}", f"u{k}", f"u{k}, {make_literal(pick, ('p', 'q', 's'))}"))
+        lines.append(f"rule {name}: {body} => {pick.choice(('p', 'p', 'p', '~p', '~p', 'q', '~q', 's'))}\n")
+    for k in range(pick.randint(0, rule_count)):
+        body = ", ".join(pick.sample(rules, min(rule_count, pick.choice((1, 1, 2)))))
+        lines.append(f"law l{k}: {body} -> {pick.choice(('~' + pick.choice(rules), make_literal(pick, ('p', 'q'))))}\n")
+    for told in range(pick.randint(0, rule_count) if rule_count > 1 else 0):
+        heavy, light = pick.sample(rules, 2)
+        lines.append(f"weigh {heavy} > {light}\n")
+    return "".join(lines)
+
+
 def make_case(pick, rule_count):
+    make = pick.choice((make_text, make_dense_text, make_dense_text))
     while True:
-        text = make_text(pick, rule_count)
+        text = make(pick, rule_count)
         case = reference.read(text)[0]
         if case:
             return case, bytes_of(text)
 
 
-def make_set(pick, case):
-    return pick.choice((2 ** len(case.rules) - 1, pick.randrange(2 ** len(case.rules))))
+def make_set(pick, case, full_of_ten):
+    """All rules so many times of ten, else any set."""
+    count = len(case.rules)
+    return 2**count - 1 if pick.randrange(10) < full_of_ten else pick.randrange(2**count)
+
+
+def make_goal(pick, case):
+    literals = case.literals()
+    # The atoms that rules fight over, more often than any.
+    fought = [name for name in literals if name.strip("~") in ("p", "p0")]
+    literal = pick.choice([pick.choice(literals)] + fought + fought)
+    return literals.index(literal), pick.randrange(4)
 
 
 def make_asked(pick, rule_counts):
     """W, may, a literal's number, what, and a case's text."""
     case, t = make_case(pick, pick.choice(rule_counts))
-    return make_set(pick, case), make_set(pick, case), pick.randrange(len(case.literals())), pick.randrange(4), t
+    asked = (make_set(pick, case, 3), make_set(pick, case, 7)) + make_goal(pick, case) + (t,)
+    # Goals that are so already have the empty change alone to tell of: most are passed over.
+    if desk.with_of(asked[0], asked[2], asked[3], t)[1] == 1 and pick.random() < 0.7:
+        return make_asked(pick, rule_counts)
+    return asked

@@ -123,6 +123,11 @@ class Case:
         """All changes of on within may that do."""
         return [change for change in parts(may) if self.so((on - change) | (change - on), literal, what)]
 
+    def bare(self, on, may, literal, what):
+        """All bare changes of on within may."""
+        doing = self.doing(on, may, literal, what)
+        return [change for change in doing if not any(other < change for other in doing)]
+
     def in_order(self, changes):
         return sorted(changes, key=lambda change: (len(change), self.number_of(change)))
 
@@ -208,6 +213,11 @@ def doing_of(w, may, literal, what, t):
     return case, case.doing(case.set_of(w), case.set_of(may), name, what)
 
 
+def bare_of(w, may, literal, what, t):
+    case, name = asked(literal, t)
+    return case, case.bare(case.set_of(w), case.set_of(may), name, what)
+
+
 def with_of(w, literal, what, t):
     if refused([w], literal, what, t):
         return refused([w], literal, what, t)
@@ -221,3 +231,9 @@ def least(w, may, literal, what, t):
         return refused([w, may], literal, what, t)
     case, doing = doing_of(w, may, literal, what, t)
     return [0, case.number_of(case.in_order(doing)[0])] if doing else [-3]
+
+
+def bares(w, may, literal, what, t):
+    if refused([w, may], literal, what, t):
+        return refused([w, may], literal, what, t)
+    return [0, len(bare_of(w, may, literal, what, t)[1])]

@@ -4,7 +4,7 @@ import unittest
 
 from asking import bits, bytes_of, members
 from reference import fault, read
-from rulechange.desk import least, with_of
+from rulechange.desk import bares, least, with_of
 
 EVERY = 1023
 
@@ -56,6 +56,19 @@ class FiveOfTenTest(unittest.TestCase):
         self.assertEqual(least(512, EVERY - 512, 18, 1, t), [0, 15])
         self.assertEqual(least(EVERY, EVERY, 1, 0, t), [-3])
 
+    def test_bares(self):
+        t = bytes_of(self.text())
+        # r0 stands with three others at most: any six of the nine others are left out.
+        self.assertEqual(bares(EVERY, EVERY, 0, 0, t), [0, 84])
+        # One of the first six stands: any four are left but the last four.
+        one_of_six = 2 * read(self.text())[0].atoms().index("t6-1")
+        self.assertEqual(bares(EVERY, EVERY, one_of_six, 0, t), [0, 209])
+        # r9 is left out, or any four of the nine others are found.
+        self.assertEqual(bares(512, EVERY, 18, 1, t), [0, 127])
+        self.assertEqual(bares(0, EVERY, 0, 0, t), [0, 1])
+        self.assertEqual(bares(EVERY, EVERY, 0, 1, t), [0, 1])
+        self.assertEqual(bares(EVERY, EVERY, 1, 0, t), [0, 0])
+
     def test_one_rule_that_outweighs_all_others(self):
         text = self.text() + "".join(f"weigh r9 > r{k}\n" for k in range(9))
         t = bytes_of(text)
@@ -72,6 +85,28 @@ class FiveOfTenTest(unittest.TestCase):
         for w in list(range(0, 1024, 31)) + [EVERY]:
             ground = bits(members(w)[:4])
             self.assertEqual(with_of(w, 0, 1, t), [0, 1 - (ground & 1), ground])
+
+
+class FiveOfTenNeededTest(unittest.TestCase):
+    """Any five of ten rules do, no four do: 252 bare changes, as many as there can be."""
+
+    T = bytes_of(FiveOfTenTest.text().replace("t10-5 -> ~z", "t10-5 -> a"))
+
+    def test_bares(self):
+        self.assertEqual(bares(0, EVERY, 0, 0, self.T), [0, 252])
+        # All ten are there: six are left out.
+        self.assertEqual(bares(EVERY, EVERY, 0, 1, self.T), [0, 210])
+        # Of five that are there one is left out; four others found would not make up for it.
+        self.assertEqual(bares(31, EVERY, 0, 1, self.T), [0, 5])
+        self.assertEqual(bares(15, EVERY, 0, 0, self.T), [0, 6])
+        self.assertEqual(bares(0, 31, 0, 0, self.T), [0, 1])
+        self.assertEqual(bares(0, 15, 0, 0, self.T), [0, 0])
+        self.assertEqual(bares(0, EVERY, 0, 2, self.T), [0, 0])
+
+    def test_least(self):
+        self.assertEqual(least(0, EVERY, 0, 0, self.T), [0, 31])
+        self.assertEqual(least(EVERY, EVERY, 0, 1, self.T), [0, 63])
+        self.assertEqual(least(682, EVERY - 682, 0, 1, self.T), [-3])
 
 
 class LongChainTest(unittest.TestCase):
@@ -126,6 +161,17 @@ class LongChainTest(unittest.TestCase):
         self.assertEqual(least(EVERY, EVERY, last, 0, t + [10]), [-1])
         self.assertEqual(least(EVERY, EVERY, last, 0, t[:-1] + [32]), [-6])
 
+    def test_bares(self):
+        t = bytes_of(self.text())
+        last = 2 * 63
+        self.assertEqual(bares(EVERY, EVERY, last, 0, t), [0, 1])
+        self.assertEqual(bares(512, EVERY, last, 1, t), [0, 4])
+        self.assertEqual(bares(EVERY, EVERY, last, 3, t), [0, 1])
+        self.assertEqual(bares(EVERY, EVERY - 1, last, 0, t), [0, 0])
+        self.assertEqual(bares(EVERY, EVERY, last + 2, 0, t), [-1])
+        self.assertEqual(bares(EVERY, EVERY, last, 0, t + [10]), [-1])
+        self.assertEqual(bares(EVERY, EVERY, last, 0, t[:-1] + [32]), [-6])
+
 
 class LongestBodiesTest(unittest.TestCase):
     def test_bodies_of_six_at_every_turn(self):
@@ -147,6 +193,8 @@ class LongestBodiesTest(unittest.TestCase):
         self.assertEqual(least(EVERY, EVERY, 2 * 63, 1, t), [0, 1])
         self.assertEqual(least(EVERY, 768, 2 * 63, 1, t), [0, 256])
         self.assertEqual(least(0, EVERY - 1, 2 * 63, 0, t), [-3])
+        self.assertEqual(bares(0, EVERY, 2 * 63, 0, t), [0, 1])
+        self.assertEqual(bares(EVERY, EVERY, 2 * 63, 1, t), [0, 10])
 
     def test_many_short_lines(self):
         text = filled("rule a: => p\nrule bb: => ~p\nrule ccc: => q\n")

@@ -4,7 +4,7 @@ import random
 import unittest
 
 from asking import make_asked, make_case, members
-from rulechange.desk import least, with_of
+from rulechange.desk import bares, least, with_of
 
 
 class FirstPromiseTest(unittest.TestCase):
@@ -51,7 +51,7 @@ def change(w, z):
 class ChangesTest(unittest.TestCase):
     """What each call tells of changes, held against with_of of every change."""
 
-    def rows(self, seed, count, rule_counts=(1, 2, 3, 4, 5)):
+    def rows(self, seed, count, rule_counts=(2, 3, 4, 5)):
         pick = random.Random(seed)
         for turn in range(count):
             w, may, literal, what, t = make_asked(pick, rule_counts)
@@ -59,7 +59,26 @@ class ChangesTest(unittest.TestCase):
             yield (w, may, literal, what, t), doing
 
 
+def bare_among(doing):
+    return [z for z in doing if not any(is_part(other, z) for other in doing)]
+
+
 class SecondPromiseTest(ChangesTest):
+    def test_every_change_that_does_has_a_bare_one_within(self):
+        told = [0, 0, 0]
+        for (w, may, literal, what, t), doing in self.rows(8, 300, (4, 5)):
+            bare = bare_among(doing)
+            self.assertEqual(bares(w, may, literal, what, t), [0, len(bare)])
+            told[min(len(bare), 2)] += 1
+            for z in doing:
+                self.assertTrue([part for part in bare if part & z == part])
+                # Told by the call: of what is within z alone, there is a bare change too.
+                self.assertGreaterEqual(bares(w, z, literal, what, t)[1], 1)
+            for z in parts(may):
+                within = [part for part in bare if part & z == part]
+                self.assertEqual(bares(w, z, literal, what, t), [0, len(within)])
+        self.assertGreater(min(told), 20)
+
     def test_the_least_does_and_is_bare_and_none_that_does_has_fewer_rules(self):
         told = {-3: 0, 0: 0}
         for asked, doing in self.rows(5, 300):

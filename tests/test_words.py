@@ -20,7 +20,7 @@ class AgainstTheWordsTest(unittest.TestCase):
         self.compare(1, 1500, (1, 2, 3, 4))
 
     def test_larger_cases(self):
-        self.compare(2, 60, (5, 6))
+        self.compare(2, 100, (5, 6))
 
     def test_all_that_can_be_asked_of_some_cases(self):
         pick = random.Random(3)
