@@ -28,6 +28,11 @@ def bares(w, may, literal, what, t):
     return answer([w, may], goal, t, lambda case: [len(find_bare(case, w, may, goal))])
 
 
+def bare(w, may, literal, what, start, most, t):
+    goal = Goal(literal, what)
+    return answer([w, may], goal, t, lambda case: find_bare(case, w, may, goal)[start:start + most])
+
+
 def answer(sets, goal, t, tell):
     try:
         return [DONE] + tell(read_asked(sets, goal, t))

@@ -20,6 +20,7 @@ def calls_of(told):
         "with_of": lambda w, may, literal, what, t: told.with_of(w, literal, what, t),
         "least": told.least,
         "bares": told.bares,
+        "bare": lambda w, may, literal, what, t: told.bare(w, may, literal, what, 0, LARGE, t),
     }
 
 
@@ -78,6 +79,11 @@ class Asked:
         answer = desk.bares(self.number(rules), self.number(may), self.literal(literal), what, self.t)
         assert answer[0] == 0 and len(answer) == 2, answer
         return answer[1]
+
+    def bare(self, rules, may, literal, what, start=0, most=LARGE):
+        answer = desk.bare(self.number(rules), self.number(may), self.literal(literal), what, start, most, self.t)
+        assert answer[0] == 0, answer
+        return [self.names(number) for number in answer[1:]]
 
 
 def make_literal(pick, names):

@@ -237,3 +237,14 @@ def bares(w, may, literal, what, t):
     if refused([w, may], literal, what, t):
         return refused([w, may], literal, what, t)
     return [0, len(bare_of(w, may, literal, what, t)[1])]
+
+
+def bare(w, may, literal, what, start, most, t):
+    if refused([w, may], literal, what, t):
+        return refused([w, may], literal, what, t)
+    case, changes = bare_of(w, may, literal, what, t)
+    told = [0]
+    for place, change in enumerate(case.in_order(changes)):
+        if start <= place < start + most:
+            told.append(case.number_of(change))
+    return told

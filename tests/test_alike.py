@@ -95,6 +95,17 @@ class RefusalsTest(unittest.TestCase):
                     told = call(w, may, 0, 1, self.GOOD)[0]
                     self.assertEqual(told, -3 if name in ("least", "needed") else 0, name)
 
+    def test_start_and_most_are_never_refused_and_change_no_refusal(self):
+        for start in (0, 1, LARGE):
+            for most in (0, 1, LARGE):
+                for asked in self.RIGHT:
+                    self.assertEqual(desk.bare(*asked, start, most, self.GOOD)[0], 0)
+                for asked in self.WRONG + self.WRONG_MAY:
+                    self.assertEqual(desk.bare(*asked, start, most, self.GOOD), [-1])
+                    self.assertEqual(desk.bare(*asked, start, most, self.BAD), [-6])
+                self.assertEqual(desk.bare(0, 0, 0, 0, start, most, self.BAD), [-6])
+                self.assertEqual(desk.bare(0, 0, 0, 0, start, most, [10] * 8193), [-1])
+
     def test_bytes_that_are_no_signs(self):
         for byte in (0, 127, 128, 255):
             self.all_answer(CALLS, (0, 0, 0, 0), [byte], [-6])
@@ -182,6 +193,7 @@ class InterfaceTest(unittest.TestCase):
         "with_of": ["w", "literal", "what", "t"],
         "least": ["w", "may", "literal", "what", "t"],
         "bares": ["w", "may", "literal", "what", "t"],
+        "bare": ["w", "may", "literal", "what", "start", "most", "t"],
     }
 
     def test_names_and_arguments(self):

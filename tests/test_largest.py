@@ -2,9 +2,9 @@
 
 import unittest
 
-from asking import bits, bytes_of, members
+from asking import LARGE, bits, bytes_of, members
 from reference import fault, read
-from rulechange.desk import bares, least, with_of
+from rulechange.desk import bare, bares, least, with_of
 
 EVERY = 1023
 
@@ -69,6 +69,16 @@ class FiveOfTenTest(unittest.TestCase):
         self.assertEqual(bares(EVERY, EVERY, 0, 1, t), [0, 1])
         self.assertEqual(bares(EVERY, EVERY, 1, 0, t), [0, 0])
 
+    def test_bare(self):
+        t = bytes_of(self.text())
+        fours = [z for z in range(512) if len(members(z)) == 4]
+        self.assertEqual(bare(512, EVERY, 18, 1, 0, LARGE, t), [0, 512] + fours)
+        self.assertEqual(bare(512, EVERY, 18, 1, 1, 3, t), [0, 15, 23, 27])
+        self.assertEqual(bare(512, EVERY, 18, 1, 126, LARGE, t), [0, 480])
+        self.assertEqual(bare(512, EVERY, 18, 1, 127, LARGE, t), [0])
+        sixes = [z for z in range(0, 1024, 2) if len(members(z)) == 6]
+        self.assertEqual(bare(EVERY, EVERY, 0, 0, 0, LARGE, t), [0] + sixes)
+
     def test_one_rule_that_outweighs_all_others(self):
         text = self.text() + "".join(f"weigh r9 > r{k}\n" for k in range(9))
         t = bytes_of(text)
@@ -102,6 +112,14 @@ class FiveOfTenNeededTest(unittest.TestCase):
         self.assertEqual(bares(0, 31, 0, 0, self.T), [0, 1])
         self.assertEqual(bares(0, 15, 0, 0, self.T), [0, 0])
         self.assertEqual(bares(0, EVERY, 0, 2, self.T), [0, 0])
+
+    def test_bare(self):
+        fives = [z for z in range(1024) if len(members(z)) == 5]
+        self.assertEqual(bare(0, EVERY, 0, 0, 0, 252, self.T), [0] + fives)
+        self.assertEqual(bare(0, EVERY, 0, 0, LARGE, LARGE, self.T), [0])
+        self.assertEqual(bare(0, EVERY, 0, 0, 250, 2, self.T), [0] + fives[250:])
+        self.assertEqual(bare(0, EVERY, 0, 0, 100, 50, self.T), [0] + fives[100:150])
+        self.assertEqual(bare(31, EVERY, 0, 1, 0, LARGE, self.T), [0, 1, 2, 4, 8, 16])
 
     def test_least(self):
         self.assertEqual(least(0, EVERY, 0, 0, self.T), [0, 31])
@@ -166,6 +184,11 @@ class LongChainTest(unittest.TestCase):
         last = 2 * 63
         self.assertEqual(bares(EVERY, EVERY, last, 0, t), [0, 1])
         self.assertEqual(bares(512, EVERY, last, 1, t), [0, 4])
+        self.assertEqual(bare(512, EVERY, last, 1, 0, LARGE, t), [0, 1, 2, 4, 512])
+        self.assertEqual(bare(EVERY, EVERY, last, 0, 0, LARGE, t), [0, 7])
+        self.assertEqual(bare(EVERY, EVERY - 1, last, 0, 0, LARGE, t), [0])
+        self.assertEqual(bare(EVERY, EVERY, last, 0, 0, LARGE, t + [10]), [-1])
+        self.assertEqual(bare(EVERY, EVERY, last, 0, 0, LARGE, t[:-1] + [32]), [-6])
         self.assertEqual(bares(EVERY, EVERY, last, 3, t), [0, 1])
         self.assertEqual(bares(EVERY, EVERY - 1, last, 0, t), [0, 0])
         self.assertEqual(bares(EVERY, EVERY, last + 2, 0, t), [-1])
@@ -195,6 +218,7 @@ class LongestBodiesTest(unittest.TestCase):
         self.assertEqual(least(0, EVERY - 1, 2 * 63, 0, t), [-3])
         self.assertEqual(bares(0, EVERY, 2 * 63, 0, t), [0, 1])
         self.assertEqual(bares(EVERY, EVERY, 2 * 63, 1, t), [0, 10])
+        self.assertEqual(bare(EVERY, EVERY, 2 * 63, 1, 0, LARGE, t), [0] + [2**k for k in range(10)])
 
     def test_many_short_lines(self):
         text = filled("rule a: => p\nrule bb: => ~p\nrule ccc: => q\n")

@@ -3,8 +3,8 @@
 import random
 import unittest
 
-from asking import make_asked, make_case, members
-from rulechange.desk import bares, least, with_of
+from asking import LARGE, make_asked, make_case, members
+from rulechange.desk import bare, bares, least, with_of
 
 
 class FirstPromiseTest(unittest.TestCase):
@@ -67,15 +67,16 @@ class SecondPromiseTest(ChangesTest):
     def test_every_change_that_does_has_a_bare_one_within(self):
         told = [0, 0, 0]
         for (w, may, literal, what, t), doing in self.rows(8, 300, (4, 5)):
-            bare = bare_among(doing)
-            self.assertEqual(bares(w, may, literal, what, t), [0, len(bare)])
-            told[min(len(bare), 2)] += 1
+            found = bare_among(doing)
+            self.assertEqual(bares(w, may, literal, what, t), [0, len(found)])
+            self.assertEqual(sorted(bare(w, may, literal, what, 0, LARGE, t)[1:]), sorted(found))
+            told[min(len(found), 2)] += 1
             for z in doing:
-                self.assertTrue([part for part in bare if part & z == part])
+                self.assertTrue([part for part in found if part & z == part])
                 # Told by the call: of what is within z alone, there is a bare change too.
                 self.assertGreaterEqual(bares(w, z, literal, what, t)[1], 1)
             for z in parts(may):
-                within = [part for part in bare if part & z == part]
+                within = [part for part in found if part & z == part]
                 self.assertEqual(bares(w, z, literal, what, t), [0, len(within)])
         self.assertGreater(min(told), 20)
 
@@ -89,6 +90,7 @@ class SecondPromiseTest(ChangesTest):
                 continue
             self.assertEqual((answer[0], len(answer)), (0, 2))
             found = answer[1]
+            self.assertEqual(bare(*asked[:4], 0, 1, asked[4]), answer)
             self.assertIn(found, doing)
             self.assertFalse([z for z in doing if is_part(z, found)])
             self.assertEqual(len(members(found)), min(len(members(z)) for z in doing))

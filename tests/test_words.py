@@ -4,7 +4,8 @@ import random
 import unittest
 
 import reference
-from asking import CALLS, CALLS_BY_WORDS, bytes_of, make_asked, make_text
+from asking import CALLS, CALLS_BY_WORDS, LARGE, bytes_of, make_asked, make_text
+from rulechange import desk
 
 
 class AgainstTheWordsTest(unittest.TestCase):
@@ -39,6 +40,15 @@ class AgainstTheWordsTest(unittest.TestCase):
             case = reference.read(text)[0]
             if case and case.heavier:
                 return case, bytes_of(text)
+
+    def test_bare_from_anywhere(self):
+        pick = random.Random(5)
+        for turn in range(200):
+            w, may, literal, what, t = make_asked(pick, (3, 4, 5))
+            for start in (0, 1, 2, 3, LARGE):
+                for most in (0, 1, 2, LARGE):
+                    asked = (w, may, literal, what, start, most, t)
+                    self.assertEqual(desk.bare(*asked), reference.bare(*asked), asked)
 
     def test_texts_with_faults(self):
         pick = random.Random(4)
