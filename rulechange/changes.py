@@ -30,16 +30,34 @@ def changed(w, change):
 
 
 def find_least(case, w, may, goal):
-    doing = find_doing(case, w, may, goal)
+    return need_one(find_doing(case, w, may, goal))[0]
+
+
+def need_one(doing):
     if len(doing) == 0:
         raise NoChange()
-    return doing[0]
+    return doing
 
 
 def find_bare(case, w, may, goal):
+    return keep_bare(find_doing(case, w, may, goal))
+
+
+def keep_bare(doing):
     bare = []
     # In order the parts of a change go ahead of it, and what does has a bare one within: no others need be asked.
-    for change in find_doing(case, w, may, goal):
+    for change in doing:
         if not has_one_within(bare, change):
             bare.append(change)
     return bare
+
+
+def find_needed(case, w, may, goal):
+    doing = need_one(find_doing(case, w, may, goal))
+    in_every = may
+    for change in doing:
+        in_every = in_every & change
+    in_some = 0
+    for change in keep_bare(doing):
+        in_some = in_some | change
+    return [in_every, in_some]

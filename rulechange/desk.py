@@ -1,7 +1,7 @@
 """The calls."""
 
 from rulechange.cases import follow_each, read_case
-from rulechange.changes import find_bare, find_least
+from rulechange.changes import find_bare, find_least, find_needed
 from rulechange.goals import MOST_WHAT, Goal, is_so
 from rulechange.refusals import NoCase, NoChange, OutOfRange
 from rulechange.strikes import find_ground, find_least_clashes, find_struck
@@ -31,6 +31,11 @@ def bares(w, may, literal, what, t):
 def bare(w, may, literal, what, start, most, t):
     goal = Goal(literal, what)
     return answer([w, may], goal, t, lambda case: find_bare(case, w, may, goal)[start:start + most])
+
+
+def needed(w, may, literal, what, t):
+    goal = Goal(literal, what)
+    return answer([w, may], goal, t, lambda case: find_needed(case, w, may, goal))
 
 
 def answer(sets, goal, t, tell):

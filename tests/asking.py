@@ -21,6 +21,7 @@ def calls_of(told):
         "least": told.least,
         "bares": told.bares,
         "bare": lambda w, may, literal, what, t: told.bare(w, may, literal, what, 0, LARGE, t),
+        "needed": told.needed,
     }
 
 
@@ -84,6 +85,11 @@ class Asked:
         answer = desk.bare(self.number(rules), self.number(may), self.literal(literal), what, start, most, self.t)
         assert answer[0] == 0, answer
         return [self.names(number) for number in answer[1:]]
+
+    def needed(self, rules, may, literal, what):
+        answer = desk.needed(self.number(rules), self.number(may), self.literal(literal), what, self.t)
+        assert len(answer) == (1 if answer[0] < 0 else 3), answer
+        return answer[0] if answer[0] < 0 else (self.names(answer[1]), self.names(answer[2]))
 
 
 def make_literal(pick, names):

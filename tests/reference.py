@@ -248,3 +248,15 @@ def bare(w, may, literal, what, start, most, t):
         if start <= place < start + most:
             told.append(case.number_of(change))
     return told
+
+
+def needed(w, may, literal, what, t):
+    if refused([w, may], literal, what, t):
+        return refused([w, may], literal, what, t)
+    case, doing = doing_of(w, may, literal, what, t)
+    if not doing:
+        return [-3]
+    changes = bare_of(w, may, literal, what, t)[1]
+    in_every = {rule for rule in case.rules if all(rule in change for change in doing)}
+    in_some = {rule for rule in case.rules if any(rule in change for change in changes)}
+    return [0, case.number_of(in_every), case.number_of(in_some)]

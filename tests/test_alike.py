@@ -7,7 +7,7 @@ import unittest
 from asking import BIRDS, CALLS, CALLS_WITH_MAY, LARGE, bytes_of
 from rulechange import desk
 
-NUMBERS = {"with_of": 2, "least": 1, "bares": 1}
+NUMBERS = {"with_of": 2, "least": 1, "bares": 1, "needed": 2}
 
 
 class RefusalsTest(unittest.TestCase):
@@ -194,6 +194,7 @@ class InterfaceTest(unittest.TestCase):
         "least": ["w", "may", "literal", "what", "t"],
         "bares": ["w", "may", "literal", "what", "t"],
         "bare": ["w", "may", "literal", "what", "start", "most", "t"],
+        "needed": ["w", "may", "literal", "what", "t"],
     }
 
     def test_names_and_arguments(self):

@@ -4,7 +4,7 @@ import unittest
 
 from asking import LARGE, bits, bytes_of, members
 from reference import fault, read
-from rulechange.desk import bare, bares, least, with_of
+from rulechange.desk import bare, bares, least, needed, with_of
 
 EVERY = 1023
 
@@ -79,6 +79,18 @@ class FiveOfTenTest(unittest.TestCase):
         sixes = [z for z in range(0, 1024, 2) if len(members(z)) == 6]
         self.assertEqual(bare(EVERY, EVERY, 0, 0, 0, LARGE, t), [0] + sixes)
 
+    def test_needed(self):
+        t = bytes_of(self.text())
+        self.assertEqual(needed(EVERY, EVERY, 0, 0, t), [0, 0, EVERY - 1])
+        self.assertEqual(needed(EVERY, EVERY - 15, 18, 0, t), [-3])
+        self.assertEqual(needed(EVERY, EVERY - 7, 18, 0, t), [0, bits(range(3, 9)), bits(range(3, 9))])
+        self.assertEqual(needed(512, EVERY, 18, 1, t), [0, 0, EVERY])
+        self.assertEqual(needed(0, EVERY, 18, 0, t), [0, 512, 512])
+        self.assertEqual(needed(EVERY, EVERY, 0, 1, t), [0, 0, 0])
+        self.assertEqual(needed(EVERY, EVERY, 1, 0, t), [-3])
+        # r9 is there again, and of the nine others six are left out.
+        self.assertEqual(needed(511, EVERY, 18, 0, t), [0, 512, EVERY])
+
     def test_one_rule_that_outweighs_all_others(self):
         text = self.text() + "".join(f"weigh r9 > r{k}\n" for k in range(9))
         t = bytes_of(text)
@@ -120,6 +132,12 @@ class FiveOfTenNeededTest(unittest.TestCase):
         self.assertEqual(bare(0, EVERY, 0, 0, 250, 2, self.T), [0] + fives[250:])
         self.assertEqual(bare(0, EVERY, 0, 0, 100, 50, self.T), [0] + fives[100:150])
         self.assertEqual(bare(31, EVERY, 0, 1, 0, LARGE, self.T), [0, 1, 2, 4, 8, 16])
+
+    def test_needed(self):
+        self.assertEqual(needed(0, EVERY, 0, 0, self.T), [0, 0, EVERY])
+        self.assertEqual(needed(0, 31, 0, 0, self.T), [0, 31, 31])
+        self.assertEqual(needed(0, 15, 0, 0, self.T), [-3])
+        self.assertEqual(needed(15, EVERY, 0, 0, self.T), [0, 0, EVERY - 15])
 
     def test_least(self):
         self.assertEqual(least(0, EVERY, 0, 0, self.T), [0, 31])
@@ -189,6 +207,11 @@ class LongChainTest(unittest.TestCase):
         self.assertEqual(bare(EVERY, EVERY - 1, last, 0, 0, LARGE, t), [0])
         self.assertEqual(bare(EVERY, EVERY, last, 0, 0, LARGE, t + [10]), [-1])
         self.assertEqual(bare(EVERY, EVERY, last, 0, 0, LARGE, t[:-1] + [32]), [-6])
+        self.assertEqual(needed(512, EVERY, last, 1, t), [0, 0, 512 + 7])
+        self.assertEqual(needed(EVERY, EVERY, last, 0, t), [0, 7, 7])
+        self.assertEqual(needed(EVERY, EVERY - 1, last, 0, t), [-3])
+        self.assertEqual(needed(EVERY, EVERY, last, 0, t + [10]), [-1])
+        self.assertEqual(needed(EVERY, EVERY, last, 0, t[:-1] + [32]), [-6])
         self.assertEqual(bares(EVERY, EVERY, last, 3, t), [0, 1])
         self.assertEqual(bares(EVERY, EVERY - 1, last, 0, t), [0, 0])
         self.assertEqual(bares(EVERY, EVERY, last + 2, 0, t), [-1])
@@ -219,6 +242,8 @@ class LongestBodiesTest(unittest.TestCase):
         self.assertEqual(bares(0, EVERY, 2 * 63, 0, t), [0, 1])
         self.assertEqual(bares(EVERY, EVERY, 2 * 63, 1, t), [0, 10])
         self.assertEqual(bare(EVERY, EVERY, 2 * 63, 1, 0, LARGE, t), [0] + [2**k for k in range(10)])
+        self.assertEqual(needed(682, EVERY, 2 * 63, 0, t), [0, EVERY - 682, EVERY - 682])
+        self.assertEqual(needed(EVERY, EVERY, 2 * 63, 1, t), [0, 0, EVERY])
 
     def test_many_short_lines(self):
         text = filled("rule a: => p\nrule bb: => ~p\nrule ccc: => q\n")

@@ -4,7 +4,7 @@ import random
 import unittest
 
 from asking import LARGE, make_asked, make_case, members
-from rulechange.desk import bare, bares, least, with_of
+from rulechange.desk import bare, bares, least, needed, with_of
 
 
 class FirstPromiseTest(unittest.TestCase):
@@ -96,6 +96,36 @@ class SecondPromiseTest(ChangesTest):
             self.assertEqual(len(members(found)), min(len(members(z)) for z in doing))
             self.assertEqual(found, min(z for z in doing if len(members(z)) == len(members(found))))
         self.assertGreater(min(told.values()), 50)
+
+
+def in_each(sets):
+    common = sets[0]
+    for one in sets:
+        common &= one
+    return common
+
+
+def in_some(sets):
+    return sum(2**rule for rule in range(10) if any(one >> rule & 1 for one in sets))
+
+
+class ThirdPromiseTest(ChangesTest):
+    def test_what_is_in_every_change_that_does_is_in_every_bare_one_and_the_other_way_round(self):
+        told = {"refused": 0, "one": 0, "several, that share": 0, "several, that share none": 0}
+        for (w, may, literal, what, t), doing in self.rows(9, 1000, (4, 5, 6)):
+            answer = needed(w, may, literal, what, t)
+            changes = bare(w, may, literal, what, 0, LARGE, t)[1:]
+            if not doing:
+                self.assertEqual(answer, [-3])
+                self.assertEqual(changes, [])
+                told["refused"] += 1
+                continue
+            self.assertEqual(in_each(doing), in_each(changes))
+            self.assertEqual(answer, [0, in_each(doing), in_some(changes)])
+            if len(changes) == 1:
+                self.assertEqual(answer, [0, changes[0], changes[0]])
+            told["one" if len(changes) == 1 else "several, that share" if answer[1] else "several, that share none"] += 1
+        self.assertGreater(min(told.values()), 5, told)
 
 
 class FourthPromiseTest(ChangesTest):
