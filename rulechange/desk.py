@@ -5,6 +5,7 @@ from rulechange.changes import find_bare, find_least, find_needed
 from rulechange.goals import MOST_WHAT, Goal, is_so
 from rulechange.refusals import NoCase, NoChange, OutOfRange
 from rulechange.strikes import find_ground, find_least_clashes, find_struck
+from rulechange.tips import find_tips
 
 MOST_BYTES = 8192
 DONE = 0
@@ -36,6 +37,11 @@ def bare(w, may, literal, what, start, most, t):
 def needed(w, may, literal, what, t):
     goal = Goal(literal, what)
     return answer([w, may], goal, t, lambda case: find_needed(case, w, may, goal))
+
+
+def tips(w, literal, what, t):
+    goal = Goal(literal, what)
+    return answer([w], goal, t, lambda case: find_tips(case, w, goal))
 
 
 def answer(sets, goal, t, tell):

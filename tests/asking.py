@@ -22,6 +22,7 @@ def calls_of(told):
         "bares": told.bares,
         "bare": lambda w, may, literal, what, t: told.bare(w, may, literal, what, 0, LARGE, t),
         "needed": told.needed,
+        "tips": lambda w, may, literal, what, t: told.tips(w, literal, what, t),
     }
 
 
@@ -90,6 +91,12 @@ class Asked:
         answer = desk.needed(self.number(rules), self.number(may), self.literal(literal), what, self.t)
         assert len(answer) == (1 if answer[0] < 0 else 3), answer
         return answer[0] if answer[0] < 0 else (self.names(answer[1]), self.names(answer[2]))
+
+    def tips(self, rules, literal, what):
+        answer = desk.tips(self.number(rules), self.literal(literal), what, self.t)
+        assert answer[0] == 0 and len(answer) % 2 == 1, answer
+        order = sorted(self.case.rules)
+        return [f"{order[x]}>{order[y]}" for x, y in zip(answer[1::2], answer[2::2])]
 
 
 def make_literal(pick, names):

@@ -6,7 +6,7 @@ and "least" is gone through whole.
 
 import re
 from functools import lru_cache
-from itertools import combinations
+from itertools import combinations, permutations
 
 NAME = "[a-z][a-z0-9-]{0,14}"
 LITERAL = f"~?{NAME}"
@@ -57,6 +57,13 @@ class Case:
             more = {(a, d) for a, b in self.heavier for c, d in self.heavier if b == c}
             grown = not more <= self.heavier
             self.heavier |= more
+
+    def with_weight(self, x, y):
+        """A case of its own, with the weight besides."""
+        other = Case()
+        other.laws, other.rules, other.heavier = self.laws, self.rules, set(self.heavier)
+        other.weigh(x, y)
+        return other
 
     def follows(self, rules):
         if rules not in self.follow_memo:
@@ -260,3 +267,17 @@ def needed(w, may, literal, what, t):
     in_every = {rule for rule in case.rules if all(rule in change for change in doing)}
     in_some = {rule for rule in case.rules if any(rule in change for change in changes)}
     return [0, case.number_of(in_every), case.number_of(in_some)]
+
+
+def tips(w, literal, what, t):
+    if refused([w], literal, what, t):
+        return refused([w], literal, what, t)
+    case, name = asked(literal, t)
+    told = [0]
+    order = sorted(case.rules)
+    for x, y in permutations(order, 2):
+        both_are_in_w = {x, y} <= case.set_of(w)
+        neither_outweighs = not {(x, y), (y, x)} & case.heavier
+        if both_are_in_w and neither_outweighs and case.with_weight(x, y).so(case.set_of(w), name, what):
+            told += [order.index(x), order.index(y)]
+    return told

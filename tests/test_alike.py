@@ -195,6 +195,7 @@ class InterfaceTest(unittest.TestCase):
         "bares": ["w", "may", "literal", "what", "t"],
         "bare": ["w", "may", "literal", "what", "start", "most", "t"],
         "needed": ["w", "may", "literal", "what", "t"],
+        "tips": ["w", "literal", "what", "t"],
     }
 
     def test_names_and_arguments(self):

@@ -1,16 +1,21 @@
 """The largest cases that the document allows."""
 
 import unittest
+from itertools import permutations
 
 from asking import LARGE, bits, bytes_of, members
 from reference import fault, read
-from rulechange.desk import bare, bares, least, needed, with_of
+from rulechange.desk import bare, bares, least, needed, tips, with_of
 
 EVERY = 1023
 
 
 def clauses(word, rows):
     return "".join(f"{word} {name}: {row}\n" for name, row in rows)
+
+
+def all_pairs(numbers):
+    return [number for pair in permutations(numbers, 2) for number in pair]
 
 
 def filled(text):
@@ -101,12 +106,30 @@ class FiveOfTenTest(unittest.TestCase):
         self.assertEqual(least(EVERY, EVERY - 512, 18, 1, t), [-3])
         self.assertEqual(least(EVERY, EVERY, 0, 0, t), [0, bits(range(1, 7))])
 
+    def test_tips(self):
+        t = bytes_of(self.text())
+        # One weight takes no rule out of the way of all fours among the nine others.
+        self.assertEqual(tips(EVERY, 0, 0, t), [0])
+        self.assertEqual(tips(EVERY, 0, 1, t), [0] + all_pairs(range(10)))
+        # Of five rules each is struck by the four others: one that it outweighs is enough.
+        self.assertEqual(tips(31, 0, 0, t), [0, 0, 1, 0, 2, 0, 3, 0, 4])
+        self.assertEqual(tips(512 + 15, 18, 0, t), [0, 9, 0, 9, 1, 9, 2, 9, 3])
+
+    def test_tips_between_two_rows_by_weight(self):
+        rows = [0, 1, 2, 4, 5, 6, 7, 8]
+        t = bytes_of(self.text() + "".join(f"weigh r{k} > r{k + 1}\n" for k in rows))
+        # r3 stands if it outweighs all the other row; r0 if it outweighs three of it.
+        self.assertEqual(tips(EVERY, 6, 0, t), [0, 3, 4])
+        pairs = [(x, y) for x in range(4) for y in range(4, 8)]
+        self.assertEqual(tips(EVERY, 0, 0, t), [0] + [number for pair in pairs for number in pair])
+
     def test_all_rules_in_a_row_by_weight(self):
         text = self.text() + "".join(f"weigh r{k} > r{k + 1}\n" for k in range(9))
         t = bytes_of(text)
         for w in list(range(0, 1024, 31)) + [EVERY]:
             ground = bits(members(w)[:4])
             self.assertEqual(with_of(w, 0, 1, t), [0, 1 - (ground & 1), ground])
+        self.assertEqual(tips(EVERY, 0, 0, t), [0])
 
 
 class FiveOfTenNeededTest(unittest.TestCase):
@@ -219,6 +242,19 @@ class LongChainTest(unittest.TestCase):
         self.assertEqual(bares(EVERY, EVERY, last, 0, t[:-1] + [32]), [-6])
 
 
+    def test_tips(self):
+        t = bytes_of(self.text())
+        last = 2 * 63
+        # a outweighs bb and ccc: what outweighs a outweighs them, and what one of them outweighs, a outweighs.
+        self.assertEqual(tips(EVERY, last, 0, t), [0, 9, 0])
+        self.assertEqual(tips(EVERY - 1, last, 0, t), [0])
+        self.assertEqual(tips(EVERY, 0, 0, t), [0, 0, 9, 1, 9, 2, 9])
+        self.assertEqual(tips(EVERY, last + 2, 0, t), [-1])
+        self.assertEqual(tips(EVERY + 1, last, 0, t), [-1])
+        self.assertEqual(tips(EVERY, last, 0, t + [10]), [-1])
+        self.assertEqual(tips(EVERY, last, 0, t[:-1] + [32]), [-6])
+
+
 class LongestBodiesTest(unittest.TestCase):
     def test_bodies_of_six_at_every_turn(self):
         names = [f"x{k:02}" for k in range(54)]
@@ -244,6 +280,8 @@ class LongestBodiesTest(unittest.TestCase):
         self.assertEqual(bare(EVERY, EVERY, 2 * 63, 1, 0, LARGE, t), [0] + [2**k for k in range(10)])
         self.assertEqual(needed(682, EVERY, 2 * 63, 0, t), [0, EVERY - 682, EVERY - 682])
         self.assertEqual(needed(EVERY, EVERY, 2 * 63, 1, t), [0, 0, EVERY])
+        self.assertEqual(tips(EVERY, 2 * 63, 0, t), [0] + all_pairs(range(10)))
+        self.assertEqual(tips(EVERY, 2 * 63, 1, t), [0])
 
     def test_many_short_lines(self):
         text = filled("rule a: => p\nrule bb: => ~p\nrule ccc: => q\n")

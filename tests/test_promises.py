@@ -112,7 +112,7 @@ def in_some(sets):
 class ThirdPromiseTest(ChangesTest):
     def test_what_is_in_every_change_that_does_is_in_every_bare_one_and_the_other_way_round(self):
         told = {"refused": 0, "one": 0, "several, that share": 0, "several, that share none": 0}
-        for (w, may, literal, what, t), doing in self.rows(9, 1000, (4, 5, 6)):
+        for (w, may, literal, what, t), doing in self.rows(9, 600, (4, 5)):
             answer = needed(w, may, literal, what, t)
             changes = bare(w, may, literal, what, 0, LARGE, t)[1:]
             if not doing:

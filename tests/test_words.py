@@ -10,10 +10,10 @@ from rulechange import desk
 
 class AgainstTheWordsTest(unittest.TestCase):
     def compare(self, seed, count, rule_counts):
-        for name in CALLS:
-            pick = random.Random(seed)
-            for turn in range(count):
-                asked = make_asked(pick, rule_counts)
+        pick = random.Random(seed)
+        for turn in range(count):
+            asked = make_asked(pick, rule_counts)
+            for name in CALLS:
                 told = CALLS_BY_WORDS[name](*asked)
                 self.assertEqual(CALLS[name](*asked), told, (name, asked[:4], bytes(asked[4]).decode()))
 
@@ -29,8 +29,8 @@ class AgainstTheWordsTest(unittest.TestCase):
             case, t = self.make_case_of_two_or_three(pick)
             sets = range(2 ** len(case.rules))
             rows = [(w, may, literal, what, t) for w in sets for may in sets for literal in range(4) for what in range(4)]
-            for name in CALLS:
-                for asked in rows:
+            for asked in rows:
+                for name in CALLS:
                     self.assertEqual(CALLS[name](*asked), CALLS_BY_WORDS[name](*asked), (name, asked))
 
     @staticmethod
