@@ -90,7 +90,7 @@ def is_within(part, whole):
 
 
 def follow_each(case):
-    """Of each set of rules, at its number's place: the set of literals that follow from it."""
+    # Of each set of rules, at its number's place: the set of literals that follow from it.
     followed = [close(0, case.laws)]
     for chosen in range(1, 1 << len(case.rules)):
         last = chosen.bit_length() - 1

@@ -20,7 +20,7 @@ def has_one_within(parts, whole):
 
 
 def find_struck(least_clashes, outweighed):
-    """Of each set of rules, at its number's place: the set of rules that it strikes."""
+    # Of each set of rules, at its number's place: the set of rules that it strikes.
     struck = [0] * (1 << len(outweighed))
     # A least set that strikes a rule is a least clash that has the rule, without the rule:
     # what clashes goes on clashing with more rules, and what doesn't, not clashing with fewer.

@@ -127,8 +127,10 @@ class FormTest(unittest.TestCase):
         for name, node in nodes(ast.ListComp):
             self.assertEqual(len(node.generators), 1)
             self.assertLessEqual(len(node.generators[0].ifs), 1)
-        for name, node in nodes(ast.Expr):
-            self.assertIsInstance(node.value, (ast.Call, ast.Constant))
+        for name, tree in trees():
+            for node in ast.walk(tree):
+                if isinstance(node, ast.Expr) and node != tree.body[0]:
+                    self.assertIsInstance(node.value, ast.Call, name)
 
 
 class NamesTest(unittest.TestCase):
