@@ -9,11 +9,11 @@ from rulechange import desk
 
 
 class AgainstTheWordsTest(unittest.TestCase):
-    def compare(self, seed, count, rule_counts):
+    def compare(self, seed, count, rule_counts, names=tuple(CALLS)):
         pick = random.Random(seed)
         for turn in range(count):
             asked = make_asked(pick, rule_counts)
-            for name in CALLS:
+            for name in names:
                 told = CALLS_BY_WORDS[name](*asked)
                 self.assertEqual(CALLS[name](*asked), told, (name, asked[:4], bytes(asked[4]).decode()))
 
@@ -22,6 +22,10 @@ class AgainstTheWordsTest(unittest.TestCase):
 
     def test_larger_cases(self):
         self.compare(2, 100, (5, 6))
+
+    def test_with_of_on_more_cases(self):
+        self.compare(6, 3000, (1, 2, 3, 4), ("with_of",))
+        self.compare(7, 300, (5, 6, 7), ("with_of",))
 
     def test_all_that_can_be_asked_of_some_cases(self):
         pick = random.Random(3)
